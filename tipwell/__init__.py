@@ -1,0 +1,1 @@
+"""Tipwell: vessels that tip when full."""
