@@ -85,6 +85,26 @@ class Language(unittest.TestCase):
                 self.assertEqual(bound & (BUILTINS | BARRED_NAMES), set())
                 self.assertEqual({name for name in bound if name.startswith("_") and not name.startswith("__")}, set())
 
+    def test_no_name_is_a_method_and_an_attribute(self):
+        methods, attributes = set(), set()
+        for _, tree in trees():
+            for node in ast.walk(tree):
+                if isinstance(node, ast.ClassDef):
+                    methods |= {part.name for part in node.body if isinstance(part, ast.FunctionDef)}
+                if isinstance(node, ast.Attribute) and isinstance(node.ctx, ast.Store):
+                    attributes.add(node.attr)
+        self.assertEqual(methods & attributes, set())
+
+    def test_no_two_files_import_from_each_other(self):
+        imports = {}
+        for path, tree in trees():
+            name = f"tipwell.{path.stem}"
+            imports[name] = {node.module for node in ast.walk(tree) if isinstance(node, ast.ImportFrom)}
+        while imports:
+            free = {name for name in imports if not imports[name] & set(imports)}
+            self.assertTrue(free, imports)
+            imports = {name: needed for name, needed in imports.items() if name not in free}
+
 
 if __name__ == "__main__":
     unittest.main()

@@ -3,6 +3,7 @@
 import random
 import unittest
 
+from kinds import KindCase
 from plain_tick import plain_tick
 from samples import chance_net, chance_pouring, net, spout, vessel
 from tipwell.nets import is_net
@@ -20,32 +21,6 @@ def rows(given, pourings):
         told.append(tick_behind(given, now, poured))
         now = told[-1][0]
     return told
-
-
-class KindCase(unittest.TestCase):
-    def assert_numbers(self, numbers, many):
-        self.assertIs(type(numbers), tuple)
-        self.assertEqual(len(numbers), many)
-        for number in numbers:
-            self.assertIs(type(number), int)
-
-    def assert_state(self, given, told):
-        self.assertIs(type(told), tuple)
-        held, coming, doors = told
-        self.assert_numbers(held, len(given[0]))
-        self.assert_numbers(coming, len(given[0]))
-        self.assertIs(type(doors), tuple)
-        self.assertEqual(len(doors), len(given[1]))
-        for door in doors:
-            self.assertIs(type(door), bool)
-
-    def assert_tick(self, given, told):
-        self.assertIs(type(told), tuple)
-        behind, tipped, grounded = told
-        self.assert_state(given, behind)
-        self.assert_numbers(tipped, len(tipped))
-        self.assertEqual(list(tipped), sorted(set(tipped)))
-        self.assertIs(type(grounded), int)
 
 
 class FirstState(KindCase):

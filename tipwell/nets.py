@@ -1,4 +1,6 @@
-"""What a net is: promise 4 of the document."""
+"""What a net is, and which vessels it has: promise 4 of the document."""
+
+from tipwell.errors import NoVessel
 
 MOST_VESSELS = 12
 MOST_SPOUTS = 12
@@ -64,6 +66,13 @@ def is_spout(thing, vessel_count):
         return False
     target, flow, door = thing
     return is_whole(target, 0, vessel_count - 1) and is_whole(flow, 0, MOST_FLOW) and isinstance(door, bool)
+
+
+def need_vessel(net, number):
+    """Refuse the number of a vessel that the net lacks."""
+    vessels, spouts = net
+    if not is_whole(number, 0, len(vessels) - 1):
+        raise NoVessel("the net has no such vessel")
 
 
 def is_tuple(thing, least, most):

@@ -8,6 +8,12 @@ def first_state(net):
     return empty, empty, tuple([door for target, flow, door in spouts])
 
 
+def pouring(net, amount):
+    """Tell what is poured with a tick where vessel 0 gets the amount, and no other vessel gets any."""
+    vessels, spouts = net
+    return (amount,) + (0,) * (len(vessels) - 1)
+
+
 def tick_behind(net, state, poured):
     """Tell the state behind one tick, the vessels that tipped with it, and how much went to the ground."""
     vessels, spouts = net
@@ -20,6 +26,13 @@ def tick_behind(net, state, poured):
     coming = [sent.get(number, 0) for number in range(len(vessels))]
     doors = doors_behind(vessels, state[2], tipped)
     return (tuple(held), tuple(coming), doors), tuple(tipped), sent.get(None, 0)
+
+
+def came_in(net, state, poured):
+    """Tell how much comes in by spouts and by hand with the tick behind the state."""
+    vessels, spouts = net
+    held, coming, doors = state
+    return sum(poured) + sum([flow for (target, flow, first_door), door in zip(spouts, doors) if door])
 
 
 def filled(spouts, state, poured):
