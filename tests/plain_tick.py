@@ -1,7 +1,8 @@
 """A second telling of promise 7, sentence by sentence, to hold the program's ticks against."""
 
 
-def plain_tick(net, state, poured):
+def plain_tick(net, state, poured, stuck=None):
+    """The tick of the net, or of the net with that vessel stuck (16)."""
     vessels, spouts = net
     held, coming, doors = state
     many = len(vessels)
@@ -11,7 +12,7 @@ def plain_tick(net, state, poured):
         has.append(held[number] + coming[number] + flow + poured[number])
     over = [max(has[number] - vessels[number][1], 0) for number in range(many)]
     below = [min(has[number], vessels[number][1]) for number in range(many)]
-    tipped = tuple(number for number in range(many) if below[number] >= vessels[number][0])
+    tipped = tuple(number for number in range(many) if below[number] >= vessels[number][0] and number != stuck)
     going = [(vessels[number][4], over[number]) for number in range(many)]
     stays = list(below)
     for number in tipped:

@@ -5,35 +5,13 @@ import unittest
 
 from kinds import KindCase
 from plain_round import plain_round, plain_tips, plain_walk
-from samples import chance_net, net, spout, vessel
+from samples import (
+    CLOCK_2001, SETTLING_2000, SETTLING_2001, SLOW_2000, chance_net, clocks, net, settling, spout, vessel,
+)
 from tipwell.errors import NoVessel, TooLong
 from tipwell.rounds import round_of, tick_of, tips_by
 
 FAR = 10 ** 60 - 1
-
-# A vessel that goes round in 125 ticks: it tips from 60 on, but nothing leaves it ahead of 125.
-SLOW = vessel(60, 200, ((None, 60), (None, 60), (None, 5)), holds=True)
-
-
-def clocks(*sizes, more=(), more_spouts=()):
-    """Vessels side by side, each with a spout of its own that drips: together they come again at the least common one."""
-    vessels = [vessel(size, size) for size in sizes] + list(more)
-    spouts = [spout(number, 1) for number in range(len(sizes))] + list(more_spouts)
-    return (tuple(vessels), tuple(spouts))
-
-
-def settling(sizes, ticks):
-    """The same with a vessel besides that fills in so many ticks, tips once, and shuts its spout."""
-    number = len(sizes)
-    return clocks(
-        *sizes, more=(vessel(ticks, ticks, acts=(("shut", number),)),), more_spouts=(spout(number, 1),)
-    )
-
-
-SLOW_2000 = net(SLOW, vessel(16, 16), spouts=(spout(0, 1), spout(1, 1)))
-SETTLING_2000 = settling((54, 37), 2)
-CLOCK_2001 = clocks(3, 23, 29)
-SETTLING_2001 = settling((54, 37), 3)
 # Vessel 0 tips with each of the first four ticks, till vessel 1 shuts its spout with the fourth.
 FOUR_TIPS = net(
     vessel(1, 1), vessel(4, 4, acts=(("shut", 0), ("shut", 1))), spouts=(spout(0, 1), spout(1, 1))
