@@ -75,6 +75,12 @@ def need_vessel(net, number):
         raise NoVessel("the net has no such vessel")
 
 
+def with_vessel(net, number, vessel):
+    """Tell the net with this vessel in the place of the one of that number."""
+    vessels, spouts = net
+    return vessels[:number] + (vessel,) + vessels[number + 1:], spouts
+
+
 def is_tuple(thing, least, most):
     """Tell whether the thing is a tuple of least to most things."""
     return isinstance(thing, tuple) and least <= len(thing) <= most

@@ -1,7 +1,7 @@
 """What a stuck vessel changes: promise 16 of the document."""
 
 from tipwell.errors import TooLong
-from tipwell.nets import need_vessel
+from tipwell.nets import need_vessel, with_vessel
 from tipwell.rounds import LAST_TICK
 from tipwell.ticks import first_state, pouring, tick_behind
 
@@ -30,8 +30,6 @@ def stuck(net, vessel):
 
 def stuck_net(net, vessel):
     """Tell the net with the vessel stuck."""
-    vessels, spouts = net
-    size, brim, outs, holds, spill, acts = vessels[vessel]
+    size, brim, outs, holds, spill, acts = net[0][vessel]
     # It never has its size where that is beyond its brim, as what is beyond the brim goes over first.
-    never = (brim + 1, brim, outs, holds, spill, acts)
-    return vessels[:vessel] + (never,) + vessels[vessel + 1:], spouts
+    return with_vessel(net, vessel, (brim + 1, brim, outs, holds, spill, acts))
