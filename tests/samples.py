@@ -1,5 +1,7 @@
 """Nets for the tests: parts with plain values to change one by one, and many nets by chance from a seed."""
 
+import random
+
 WORDS = ("open", "shut", "turn")
 
 
@@ -55,6 +57,13 @@ def small_net(chance, vessel_count, spout_count):
         (chance.randrange(vessel_count), chance.randint(0, 2), chance.random() < 0.6) for _ in range(spout_count)
     )
     return (tuple(vessels), spouts)
+
+
+def chance_given(seed, most_vessels=12, most_spouts=12):
+    """The chance of this seed, and a net by it, of any numbers or of small ones."""
+    chance = random.Random(seed)
+    make = chance.choice((chance_net, small_net))
+    return chance, make(chance, chance.randint(1, most_vessels), chance.randint(0, most_spouts))
 
 
 def clocks(*sizes, more=(), more_spouts=()):

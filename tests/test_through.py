@@ -1,12 +1,11 @@
 """Promise 20: the sums of a round, and what came and went within so many ticks, by the plain ticks."""
 
-import random
 import unittest
 
 from kinds import KindCase
 from plain_round import plain_round, plain_through, plain_tips
 from samples import (
-    CLOCK_2001, SETTLING_2000, SETTLING_2001, SLOW_2000, chance_net, clocks, net, settling, small_net, spout, vessel,
+    CLOCK_2001, SETTLING_2000, SETTLING_2001, SLOW_2000, chance_given, clocks, net, settling, spout, vessel,
 )
 from tipwell.errors import TooLong
 from tipwell.layouts import bell_for, counter
@@ -26,9 +25,7 @@ BUSY = net(
 def by_chance(seeds, longest=120):
     """Nets whose states come again within so many ticks, with their rounds."""
     for seed in seeds:
-        chance = random.Random(seed)
-        make = chance.choice((chance_net, small_net))
-        given = make(chance, chance.randint(1, 12), chance.randint(0, 12))
+        chance, given = chance_given(seed)
         found = plain_round(plain_through(given, longest)[0])
         if found is not None:
             yield chance, given, found

@@ -1,8 +1,8 @@
 """A run of a net, its book, and what is taken back: promises 9, 26 and 27 of the document."""
 
 from tipwell.errors import NoNet, Nothing
+from tipwell.moments import first_moment, moment_gone, moment_poured
 from tipwell.nets import is_net, need_vessel
-from tipwell.ticks import came_in, first_state, pouring, tick_behind
 
 
 class Run:
@@ -14,27 +14,20 @@ class Run:
         self.net = net
         self.rows = []
         # A moment ahead of each row and one behind the last, so that taking back is dropping the last of both.
-        self.moments = [(0, first_state(net), pouring(net, 0), 0, 0)]
+        self.moments = [first_moment(net)]
         self.tip_ticks = [[] for vessel in net[0]]
 
     def pour(self, vessel, amount):
         """Pour the amount into the vessel with the next tick."""
         need_vessel(self.net, vessel)
-        tick, state, poured, came, grounded = self.moments[-1]
-        more = list(poured)
-        more[vessel] += amount
-        self.moments.append((tick, state, tuple(more), came, grounded))
+        self.moments.append(moment_poured(self.moments[-1], vessel, amount))
         self.rows.append(("pour", vessel, amount))
 
     def go(self, many):
         """Go so many ticks."""
-        moment, tipped = self.moments[-1], []
-        for step in range(many):
-            tick = moment[0]
-            moment, numbers = moment_behind(self.net, moment)
-            tipped.extend([(tick, number) for number in numbers])
+        moment, tipped = moment_gone(self.net, self.moments[-1], many)
         self.moments.append(moment)
-        self.rows.append(("go", many, tuple(tipped)))
+        self.rows.append(("go", many, tipped))
         for tick, number in tipped:
             self.tip_ticks[number].append(tick)
 
@@ -72,11 +65,3 @@ class Run:
     def book(self):
         """List a row for each pouring and each going."""
         return list(self.rows)
-
-
-def moment_behind(net, moment):
-    """Tell the moment behind one tick, and the vessels that tipped with it."""
-    tick, state, poured, came, grounded = moment
-    behind, tipped, lost = tick_behind(net, state, poured)
-    came += came_in(net, state, poured)
-    return (tick + 1, behind, pouring(net, 0), came, grounded + lost), tipped
